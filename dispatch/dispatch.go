@@ -13,7 +13,13 @@ const lineEnd = "\n"
 
 // Dispatcher: of a configuration.
 type Dispatcher struct {
+	config      api.Config
+	now         int
 	connections map[int]*connection
+	requests    map[int]*request   // the open ones
+	tenants     map[string]*tenant // those of whom a request is open
+	ring        []*tenant          // those of whom a request waits, in the order of their turns
+	pullers     []int              // the connections that wait for work, the longest first
 }
 
 // New: an empty one (P2).
@@ -21,7 +27,12 @@ func New(c api.Config) (*Dispatcher, api.Errno) {
 	if !isConfig(c) {
 		return nil, api.ErrConfig
 	}
-	return &Dispatcher{connections: map[int]*connection{}}, api.OK
+	return &Dispatcher{
+		config:      c,
+		connections: map[int]*connection{},
+		requests:    map[int]*request{},
+		tenants:     map[string]*tenant{},
+	}, api.OK
 }
 
 // Seal: a text as a line (P2).
@@ -40,10 +51,10 @@ func (d *Dispatcher) Feed(conn int, bytes string) []api.Out {
 		if !ended {
 			break
 		}
-		handle(&t, conn, c.End())
+		d.handle(&t, conn, c.End())
 		bytes = rest
 	}
-	// A connection of which nothing is to be known takes no room.
+	// A connection of which no byte is kept takes no room.
 	if c.Empty() {
 		delete(d.connections, conn)
 	}
@@ -51,27 +62,53 @@ func (d *Dispatcher) Feed(conn int, bytes string) []api.Out {
 }
 
 // Tick: time goes on (P8).
-func (d *Dispatcher) Tick() []api.Out { return nil }
+func (d *Dispatcher) Tick() []api.Out {
+	if !d.made() {
+		return nil
+	}
+	var t talk
+	d.now++
+	d.handOut(&t)
+	return t.outs
+}
 
 // Close: a connection is no more (P10).
 func (d *Dispatcher) Close(conn int) []api.Out {
-	if d.made() {
-		delete(d.connections, conn)
+	if !d.made() {
+		return nil
 	}
-	return nil
+	var t talk
+	delete(d.connections, conn)
+	d.pullers = without(d.pullers, conn)
+	d.handOut(&t)
+	return t.outs
 }
 
 // Look: what there is (P6).
-func (d *Dispatcher) Look() api.Look { return api.Look{} }
+func (d *Dispatcher) Look() api.Look {
+	if !d.made() {
+		return api.Look{}
+	}
+	look := api.Look{Now: d.now, Waiting: len(d.pullers)}
+	for _, who := range d.tenants {
+		look.Queued += len(who.waiting)
+		look.Running += who.running
+	}
+	return look
+}
 
 // made: no call may panic, not even one on a dispatcher that New did not make.
 func (d *Dispatcher) made() bool {
 	return d != nil && d.connections != nil
 }
 
-func handle(t *talk, conn int, line string) {
-	text, ok := wire.Open(line)
-	if !ok || !message.Is(text) {
+func (d *Dispatcher) handle(t *talk, conn int, line string) {
+	text, sealed := wire.Open(line)
+	m, known := message.Read(text)
+	if !sealed || !known {
 		t.say(conn, "bad")
+		return
 	}
+	d.obey(t, conn, m)
+	d.handOut(t)
 }

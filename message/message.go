@@ -1,7 +1,8 @@
-// Package message: which texts are messages.
+// Package message: texts as messages.
 package message
 
 import (
+	"strconv"
 	"strings"
 	"unicode/utf8"
 
@@ -16,35 +17,83 @@ const (
 	firstOther, lastOther = '\u00a1', '\uffff'
 )
 
-// Is: whether a text is a message.
-func Is(text string) bool {
+// The first words of messages: what they ask for.
+const (
+	Sub   = "sub"
+	Can   = "can"
+	Pull  = "pull"
+	Beat  = "beat"
+	Done  = "done"
+	Fail  = "fail"
+	Drain = "drain"
+)
+
+// Message: what a text asks for. A part that its kind does not have is zero.
+type Message struct {
+	Verb        string
+	ID, Attempt int
+	Tenant      string
+	Text        string
+}
+
+// Read: the message that a text is; false, if it is none.
+func Read(text string) (Message, bool) {
 	words := strings.Split(text, " ")
-	rest := words[1:]
-	switch words[0] {
-	case "pull", "beat", "drain":
-		return fits(rest)
-	case "can":
-		return fits(rest, isNumber)
-	case "fail":
-		return fits(rest, isNumber, isNumber)
-	case "sub":
-		return fits(rest, isNumber, isTenant, isPayload)
-	case "done":
-		return fits(rest, isNumber, isNumber, isPayload)
+	m := Message{Verb: words[0]}
+	if !m.take(words[1:]) {
+		return Message{}, false
+	}
+	return m, true
+}
+
+func (m *Message) take(words []string) bool {
+	id, attempt := number(&m.ID), number(&m.Attempt)
+	switch m.Verb {
+	case Pull, Beat, Drain:
+		return fits(words)
+	case Can:
+		return fits(words, id)
+	case Fail:
+		return fits(words, id, attempt)
+	case Sub:
+		return fits(words, id, word(&m.Tenant, isTenant), word(&m.Text, isPayload))
+	case Done:
+		return fits(words, id, attempt, word(&m.Text, isPayload))
 	}
 	return false
 }
 
-func fits(words []string, kinds ...func(string) bool) bool {
-	if len(words) != len(kinds) {
+// field: takes the word that stands in its place, if it is one that may stand there.
+type field func(word string) bool
+
+func fits(words []string, fields ...field) bool {
+	if len(words) != len(fields) {
 		return false
 	}
-	for i, is := range kinds {
-		if !is(words[i]) {
+	for i, takes := range fields {
+		if !takes(words[i]) {
 			return false
 		}
 	}
 	return true
+}
+
+func number(into *int) field {
+	return func(word string) bool {
+		if !isNumber(word) {
+			return false
+		}
+		n, err := strconv.Atoi(word)
+		*into = n
+		return err == nil
+	}
+}
+
+func word(into *string, may func(string) bool) field {
+	return func(word string) bool {
+		*into = word
+		return may(word)
+	}
 }
 
 func isNumber(word string) bool {

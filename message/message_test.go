@@ -14,7 +14,7 @@ func TestMessages(t *testing.T) {
 		"sub 1 sub \uffff\uffff\uffff\uffff\uffff\uffff\uffff\uffff\uffff\uffff\uffff\uffff",
 		"done 0 0 x", "done 1 2 v", "done 999999 999999 123456789012", "done 1 1 \ufffd",
 	} {
-		if !Is(text) {
+		if _, ok := Read(text); !ok {
 			t.Errorf("%q is a message", text)
 		}
 	}
@@ -52,9 +52,28 @@ func TestNoMessages(t *testing.T) {
 		},
 	} {
 		for _, text := range texts {
-			if Is(text) {
-				t.Errorf("%s: %q is no message", kind, text)
+			if m, ok := Read(text); ok || m != (Message{}) {
+				t.Errorf("%s: %q is no message, but: %v, %t", kind, text, m, ok)
 			}
+		}
+	}
+}
+
+func TestPartsOfMessages(t *testing.T) {
+	for text, want := range map[string]Message{
+		"pull":                  {Verb: Pull},
+		"beat":                  {Verb: Beat},
+		"drain":                 {Verb: Drain},
+		"can 0":                 {Verb: Can},
+		"can 999999":            {Verb: Can, ID: 999999},
+		"fail 10 2":             {Verb: Fail, ID: 10, Attempt: 2},
+		"done 3 999999 é":       {Verb: Done, ID: 3, Attempt: 999999, Text: "é"},
+		"done 0 0 12":           {Verb: Done, Text: "12"},
+		"sub 7 αω \uffff\ufffd": {Verb: Sub, ID: 7, Tenant: "αω", Text: "\uffff\ufffd"},
+		"sub 12 can sub":        {Verb: Sub, ID: 12, Tenant: "can", Text: "sub"},
+	} {
+		if got, ok := Read(text); !ok || got != want {
+			t.Errorf("%q: %v, %t, want %v", text, got, ok, want)
 		}
 	}
 }

@@ -1,0 +1,78 @@
+package dispatch
+
+type request struct {
+	id       int
+	conn     int // whose it is
+	tenant   *tenant
+	text     string
+	begun    int        // how many attempts of it there have been
+	attempts []*attempt // those that run, in the order in which they began
+}
+
+type attempt struct {
+	number    int
+	request   *request
+	conn      int // whose work it is
+	leaseEnds int // at which time
+}
+
+// attempt: nil, if the connection has no such one.
+func (d *Dispatcher) attempt(conn, id, number int) *attempt {
+	r := d.requests[id]
+	if r == nil {
+		return nil
+	}
+	return find(r.attempts, func(a *attempt) bool {
+		return a.number == number && a.conn == conn
+	})
+}
+
+// handOut: as long as there is work, and a connection that waits for it.
+func (d *Dispatcher) handOut(t *talk) {
+	for len(d.pullers) > 0 {
+		who := find(d.ring, func(one *tenant) bool {
+			return one.running < d.config.Cap
+		})
+		if who == nil {
+			return
+		}
+		conn, r := d.pullers[0], who.waiting[0]
+		d.pullers = without(d.pullers, conn)
+		d.waitNoMore(r)
+		d.turnIsOver(who)
+		d.begin(t, conn, r)
+	}
+}
+
+func (d *Dispatcher) begin(t *talk, conn int, r *request) {
+	r.begun++
+	a := &attempt{
+		number:    r.begun,
+		request:   r,
+		conn:      conn,
+		leaseEnds: d.now + d.config.Lease,
+	}
+	r.attempts = append(r.attempts, a)
+	r.tenant.running++
+	t.say(conn, "run", r.id, a.number, r.tenant.name, r.text)
+}
+
+func end(a *attempt) {
+	r := a.request
+	r.attempts = without(r.attempts, a)
+	r.tenant.running--
+}
+
+func (d *Dispatcher) shut(t *talk, r *request) {
+	for len(r.attempts) > 0 {
+		a := r.attempts[0]
+		t.say(a.conn, "stop", r.id, a.number)
+		end(a)
+	}
+	d.waitNoMore(r)
+	delete(d.requests, r.id)
+	// An open request waits or runs: of a tenant who has neither, none is open.
+	if who := r.tenant; len(who.waiting) == 0 && who.running == 0 {
+		delete(d.tenants, who.name)
+	}
+}

@@ -20,6 +20,8 @@ type Dispatcher struct {
 	tenants     map[string]*tenant // those of whom a request is open
 	ring        []*tenant          // those of whom a request waits, in the order of their turns
 	pullers     []int              // the connections that wait for work, the longest first
+	leases      leases             // of the attempts that run
+	begun       int                // how many attempts there have been
 }
 
 // New: an empty one (P2).
@@ -68,6 +70,8 @@ func (d *Dispatcher) Tick() []api.Out {
 	}
 	var t talk
 	d.now++
+	d.endLeases(&t)
+	d.hedge()
 	d.handOut(&t)
 	return t.outs
 }
@@ -89,10 +93,9 @@ func (d *Dispatcher) Look() api.Look {
 	if !d.made() {
 		return api.Look{}
 	}
-	look := api.Look{Now: d.now, Waiting: len(d.pullers)}
+	look := api.Look{Now: d.now, Running: len(d.leases), Waiting: len(d.pullers)}
 	for _, who := range d.tenants {
 		look.Queued += len(who.waiting)
-		look.Running += who.running
 	}
 	return look
 }

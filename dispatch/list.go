@@ -13,6 +13,17 @@ func find[T any](list []T, so func(T) bool) T {
 	return none
 }
 
+// all: those in a list that are so, in a list of their own.
+func all[T any](list []T, so func(T) bool) []T {
+	var those []T
+	for _, one := range list {
+		if so(one) {
+			those = append(those, one)
+		}
+	}
+	return those
+}
+
 // without: the list, in its own room, without one that it may hold (once).
 func without[T comparable](list []T, gone T) []T {
 	switch i := slices.Index(list, gone); i {

@@ -20,6 +20,22 @@ func TestFind(t *testing.T) {
 	}
 }
 
+func TestAll(t *testing.T) {
+	list := []int{3, 8, 5, 9}
+	for low, want := range map[int][]int{0: {3, 8, 5, 9}, 3: {8, 5, 9}, 8: {9}, 9: nil} {
+		got := all(list, func(n int) bool { return n > low })
+		if !slices.Equal(got, want) {
+			t.Errorf("all above %d: %v, want %v", low, got, want)
+		}
+		for i := range got {
+			got[i] = -1
+		}
+	}
+	if !slices.Equal(list, []int{3, 8, 5, 9}) {
+		t.Errorf("the list itself was written: %v", list)
+	}
+}
+
 func TestWithout(t *testing.T) {
 	for gone, want := range map[int][]int{3: {8, 5}, 8: {3, 5}, 5: {3, 8}, 4: {3, 8, 5}} {
 		whole := []int{3, 8, 5}

@@ -20,13 +20,19 @@ type model struct {
 	turns  map[string]int // tenants in the ring
 	pulls  map[int]int    // connections that wait for work
 	said   []string
+	hedges int // how many there have been, which nobody is told
 }
 
 type modelRequest struct {
-	id, conn, begun int
-	tenant, text    string
-	waits           int         // the stamp of when it began to; 0: it does not
-	attempts        map[int]int // the connections of those that run, by their numbers
+	id, conn, begun, again int
+	tenant, text           string
+	hedged                 bool
+	waits                  int // a stamp, below 0 if it came as the first; 0: it does not
+	attempts               map[int]*modelAttempt
+}
+
+type modelAttempt struct {
+	id, number, conn, stamp, began, ends int
 }
 
 func newModel(c api.Config) *model {
@@ -57,7 +63,7 @@ func least[K comparable](stamps map[K]int, may func(K) bool) (K, bool) {
 func (m *model) waiting(tenant string) map[int]int {
 	stamps := map[int]int{}
 	for id, r := range m.open {
-		if r.tenant == tenant && r.waits > 0 {
+		if r.tenant == tenant && r.waits != 0 {
 			stamps[id] = r.waits
 		}
 	}
@@ -72,6 +78,20 @@ func (m *model) running(tenant string) int {
 		}
 	}
 	return n
+}
+
+// runs: those that may be taken, as they began.
+func (m *model) runs(may func(*modelAttempt) bool) []*modelAttempt {
+	var list []*modelAttempt
+	for _, r := range m.open {
+		for _, a := range r.attempts {
+			if may(a) {
+				list = append(list, a)
+			}
+		}
+	}
+	slices.SortFunc(list, func(a, b *modelAttempt) int { return a.stamp - b.stamp })
+	return list
 }
 
 func (m *model) call(conn int, text string) []string {
@@ -89,8 +109,16 @@ func (m *model) call(conn int, text string) []string {
 		}
 	case "done":
 		m.done(conn, id, w[2], w[3])
+	case "beat":
+		for _, a := range m.runs(func(a *modelAttempt) bool { return a.conn == conn }) {
+			a.ends = m.now + m.Lease
+		}
+	case "fail":
+		if m.end(conn, id, w[2]) {
+			m.comeAgain(m.open[id])
+		}
 	case "tick":
-		m.now++
+		m.tick()
 	}
 	m.hand()
 	return m.said
@@ -103,10 +131,8 @@ func (m *model) sub(conn, id int, tenant, text string) {
 	case len(m.waiting(tenant)) >= m.Bound:
 		m.say(conn, "rej", n, "full")
 	default:
-		m.open[id] = &modelRequest{id: id, conn: conn, tenant: tenant, text: text, waits: m.stamp(), attempts: map[int]int{}}
-		if m.turns[tenant] == 0 {
-			m.turns[tenant] = m.stamp()
-		}
+		m.open[id] = &modelRequest{id: id, conn: conn, tenant: tenant, text: text, attempts: map[int]*modelAttempt{}}
+		m.wait(m.open[id], 1)
 		m.say(conn, "acc", n)
 	}
 }
@@ -121,23 +147,69 @@ func (m *model) can(conn, id int) {
 }
 
 func (m *model) done(conn, id int, number, text string) {
+	if m.end(conn, id, number) {
+		m.say(m.open[id].conn, "val", strconv.Itoa(id), text)
+		m.shut(id)
+	}
+}
+
+// wait: sign is 1 for its tenant's last, and -1 for its first.
+func (m *model) wait(r *modelRequest, sign int) {
+	if m.turns[r.tenant] == 0 {
+		m.turns[r.tenant] = m.stamp()
+	}
+	r.waits = sign * m.stamp()
+}
+
+func (m *model) end(conn, id int, number string) bool {
 	att, _ := strconv.Atoi(number)
 	r := m.open[id]
-	if r == nil {
+	if r == nil || r.attempts[att] == nil || r.attempts[att].conn != conn {
+		return false
+	}
+	delete(r.attempts, att)
+	return true
+}
+
+func (m *model) comeAgain(r *modelRequest) {
+	if r.waits != 0 || len(r.attempts) > 0 {
 		return
 	}
-	if worker, runs := r.attempts[att]; runs && worker == conn {
-		m.say(r.conn, "val", strconv.Itoa(id), text)
-		delete(r.attempts, att)
-		m.shut(id)
+	if r.again == m.Retries {
+		m.say(r.conn, "err", strconv.Itoa(r.id))
+		m.shut(r.id)
+		return
+	}
+	r.again++
+	m.wait(r, -1)
+}
+
+func (m *model) tick() {
+	m.now++
+	for _, a := range m.runs(func(a *modelAttempt) bool { return a.ends == m.now }) {
+		m.say(a.conn, "stop", strconv.Itoa(a.id), strconv.Itoa(a.number))
+		r := m.open[a.id]
+		delete(r.attempts, a.number)
+		m.comeAgain(r)
+	}
+	if m.Hedge == 0 {
+		return
+	}
+	for _, a := range m.runs(func(a *modelAttempt) bool { return m.now-a.began >= m.Hedge }) {
+		r := m.open[a.id]
+		if r.waits == 0 && len(r.attempts) == 1 && !r.hedged {
+			r.hedged = true
+			m.hedges++
+			m.wait(r, 1)
+		}
 	}
 }
 
 func (m *model) shut(id int) {
 	r := m.open[id]
 	for att := range r.begun + 1 {
-		if worker, runs := r.attempts[att]; runs {
-			m.say(worker, "stop", strconv.Itoa(id), strconv.Itoa(att))
+		if a := r.attempts[att]; a != nil {
+			m.say(a.conn, "stop", strconv.Itoa(id), strconv.Itoa(att))
 		}
 	}
 	delete(m.open, id)
@@ -163,7 +235,7 @@ func (m *model) hand() {
 			m.turns[tenant] = m.stamp()
 		}
 		r.begun++
-		r.attempts[r.begun] = conn
+		r.attempts[r.begun] = &modelAttempt{id, r.begun, conn, m.stamp(), m.now, m.now + m.Lease}
 		m.say(conn, "run", strconv.Itoa(id), strconv.Itoa(r.begun), tenant, r.text)
 	}
 }
@@ -172,36 +244,54 @@ func (m *model) lookAt() api.Look {
 	look := api.Look{Now: m.now, Waiting: len(m.pulls)}
 	for _, r := range m.open {
 		look.Running += len(r.attempts)
-		if r.waits > 0 {
+		if r.waits != 0 {
 			look.Queued++
 		}
 	}
 	return look
 }
 
-func randomCall(r *rand.Rand) (int, string) {
+// anAttempt: mostly one that runs, of its connection.
+func (m *model) anAttempt(r *rand.Rand) (int, string) {
+	list := m.runs(func(*modelAttempt) bool { return true })
+	if len(list) == 0 || r.Intn(4) == 0 {
+		return r.Intn(6), strconv.Itoa(r.Intn(20)) + " " + strconv.Itoa(r.Intn(4))
+	}
+	a := list[r.Intn(len(list))]
+	return a.conn, strconv.Itoa(a.id) + " " + strconv.Itoa(a.number)
+}
+
+func (m *model) randomCall(r *rand.Rand) (int, string) {
 	pick := func(words ...string) string { return words[r.Intn(len(words))] }
 	id := strconv.Itoa(r.Intn(20))
-	switch r.Intn(12) {
+	switch r.Intn(16) {
 	case 0, 1, 2, 3:
 		return r.Intn(3), "sub " + id + " " + pick("a", "b", "α", "βγ") + " " + pick("x", "é")
 	case 4:
 		return r.Intn(3), "can " + id
 	case 5, 6, 7:
 		return r.Intn(6), "pull"
+	case 8, 9:
+		conn, att := m.anAttempt(r)
+		return conn, "done " + att + " " + pick("v", "ω")
+	case 10, 11:
+		conn, att := m.anAttempt(r)
+		return conn, "fail " + att
+	case 12:
+		return r.Intn(6), "beat"
 	default:
-		return r.Intn(6), "done " + id + " " + pick("1", "1", "1", "2") + " " + pick("v", "ω")
+		return 0, "tick"
 	}
 }
 
 func TestAgainstModel(t *testing.T) {
 	r := rand.New(rand.NewSource(1))
 	spoken := map[string]int{}
-	for round := range 200 {
-		c := api.Config{Lease: 20, Cap: 1 + round%5, Bound: 1 + round%8}
+	for range 1000 {
+		c := api.Config{Lease: 1 + r.Intn(20), Retries: r.Intn(6), Cap: 1 + r.Intn(5), Bound: 1 + r.Intn(8), Hedge: r.Intn(21)}
 		d, m := beginWith(t, c), newModel(c)
 		for n := range 400 {
-			conn, text := randomCall(r)
+			conn, text := m.randomCall(r)
 			got, want := words(call(d, conn, text)), m.call(conn, text)
 			if !slices.Equal(got, want) {
 				t.Fatalf("%v, call %d, %d %q: %q, want %q", c, n, conn, text, got, want)
@@ -213,8 +303,9 @@ func TestAgainstModel(t *testing.T) {
 				spoken[strings.Fields(line)[1]]++
 			}
 		}
+		spoken["(hedged)"] += m.hedges
 	}
-	for _, word := range []string{"acc", "rej", "none", "gone", "stop", "run", "val"} {
+	for _, word := range []string{"acc", "rej", "none", "gone", "stop", "run", "val", "err", "(hedged)"} {
 		if spoken[word] < 100 {
 			t.Errorf("%q was said %d times only: %v", word, spoken[word], spoken)
 		}

@@ -14,8 +14,12 @@ func (d *Dispatcher) obey(t *talk, conn int, m message.Message) {
 		d.cancel(t, conn, m.ID)
 	case message.Pull:
 		d.pull(conn)
+	case message.Beat:
+		d.beat(conn)
 	case message.Done:
 		d.done(t, conn, m)
+	case message.Fail:
+		d.fail(t, conn, m)
 	}
 }
 
@@ -58,6 +62,15 @@ func (d *Dispatcher) done(t *talk, conn int, m message.Message) {
 	}
 	r := a.request
 	t.say(r.conn, "val", r.id, m.Text)
-	end(a)
+	d.end(a)
 	d.shut(t, r)
+}
+
+func (d *Dispatcher) fail(t *talk, conn int, m message.Message) {
+	a := d.attempt(conn, m.ID, m.Attempt)
+	if a == nil {
+		return
+	}
+	d.end(a)
+	d.comeAgain(t, a.request)
 }

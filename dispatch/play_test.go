@@ -69,7 +69,7 @@ func expectLook(t *testing.T, d *Dispatcher, want api.Look) {
 // expectNothingKept: of requests and tenants that are no more.
 func expectNothingKept(t *testing.T, d *Dispatcher) {
 	t.Helper()
-	if len(d.requests)+len(d.tenants)+len(d.ring)+len(d.pullers)+len(d.connections) != 0 {
-		t.Errorf("kept: %v %v %v %v %v", d.requests, d.tenants, d.ring, d.pullers, d.connections)
+	if len(d.requests)+len(d.tenants)+len(d.ring)+len(d.pullers)+len(d.leases)+len(d.connections) != 0 {
+		t.Errorf("kept: %v %v %v %v %v %v", d.requests, d.tenants, d.ring, d.pullers, d.leases, d.connections)
 	}
 }

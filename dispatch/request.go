@@ -1,11 +1,18 @@
 package dispatch
 
+import (
+	"container/heap"
+	"slices"
+)
+
 type request struct {
 	id       int
 	conn     int // whose it is
 	tenant   *tenant
 	text     string
 	begun    int        // how many attempts of it there have been
+	again    int        // how many times it has come again
+	hedged   bool       // at some time
 	attempts []*attempt // those that run, in the order in which they began
 }
 
@@ -13,7 +20,14 @@ type attempt struct {
 	number    int
 	request   *request
 	conn      int // whose work it is
+	serial    int // rises from each attempt to the next that begins, of any request
+	began     int // at which time
 	leaseEnds int // at which time
+	place     int // in the leases
+}
+
+func (r *request) waits() bool {
+	return slices.Contains(r.tenant.waiting, r)
 }
 
 // attempt: nil, if the connection has no such one.
@@ -45,29 +59,37 @@ func (d *Dispatcher) handOut(t *talk) {
 }
 
 func (d *Dispatcher) begin(t *talk, conn int, r *request) {
+	d.begun++
 	r.begun++
 	a := &attempt{
 		number:    r.begun,
 		request:   r,
 		conn:      conn,
+		serial:    d.begun,
+		began:     d.now,
 		leaseEnds: d.now + d.config.Lease,
 	}
 	r.attempts = append(r.attempts, a)
 	r.tenant.running++
+	heap.Push(&d.leases, a)
 	t.say(conn, "run", r.id, a.number, r.tenant.name, r.text)
 }
 
-func end(a *attempt) {
+func (d *Dispatcher) end(a *attempt) {
 	r := a.request
 	r.attempts = without(r.attempts, a)
 	r.tenant.running--
+	heap.Remove(&d.leases, a.place)
+}
+
+func (d *Dispatcher) stop(t *talk, a *attempt) {
+	t.say(a.conn, "stop", a.request.id, a.number)
+	d.end(a)
 }
 
 func (d *Dispatcher) shut(t *talk, r *request) {
 	for len(r.attempts) > 0 {
-		a := r.attempts[0]
-		t.say(a.conn, "stop", r.id, a.number)
-		end(a)
+		d.stop(t, r.attempts[0])
 	}
 	d.waitNoMore(r)
 	delete(d.requests, r.id)

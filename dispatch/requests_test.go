@@ -27,8 +27,20 @@ func TestExamples(t *testing.T) {
 		step{6, "done 1 1 v", nil},
 	)
 	expectLook(t, d, api.Look{Queued: 1, Running: 2, Waiting: 2})
-	play(t, d, step{5, "done 1 1 v", said("1 val 1 v", "5 run 2 1 a q")})
-	expectLook(t, d, api.Look{Running: 2, Waiting: 1})
+	play(t, d,
+		step{5, "fail 1 1", said("5 run 1 2 a p")},
+		step{5, "fail 1 2", said("1 err 1", "6 run 2 1 a q")},
+		step{0, "tick", nil},
+		step{0, "tick", nil},
+	)
+	expectLook(t, d, api.Look{Now: 2, Queued: 2, Running: 2})
+	play(t, d,
+		step{5, "pull", nil},
+		step{0, "tick", said("5 stop 3 1", "6 stop 2 1", "5 run 3 2 b r")},
+		step{6, "pull", said("6 run 2 2 a q")},
+		step{6, "done 2 2 w", said("2 val 2 w")},
+	)
+	expectLook(t, d, api.Look{Now: 3, Running: 1})
 }
 
 // P4: sub
@@ -214,19 +226,27 @@ func TestDoneOfOnesOwnRequest(t *testing.T) {
 	expectNothingKept(t, d)
 }
 
-// twoAttempts: request 1 of connection 1, which waits beside its first attempt
-// (of connection 5), has a second (of connection 6).
-func twoAttempts(t *testing.T) *Dispatcher {
+// hedged: request 1 of connection 1, at time 1, waits beside its first attempt
+// (of connection 5).
+func hedged(t *testing.T, c api.Config) *Dispatcher {
 	t.Helper()
-	d := beginWith(t, api.Config{Lease: 1, Cap: 2, Bound: 8})
+	c.Hedge = 1
+	d := beginWith(t, c)
 	play(t, d,
 		step{1, "sub 1 a x", said("1 acc 1")},
 		step{5, "pull", said("5 run 1 1 a x")},
+		step{0, "tick", nil},
 	)
-	d.waitLast(d.requests[1])
-	expectLook(t, d, api.Look{Queued: 1, Running: 1})
+	expectLook(t, d, api.Look{Now: 1, Queued: 1, Running: 1})
+	return d
+}
+
+// twoAttempts: the same, and has a second (of connection 6).
+func twoAttempts(t *testing.T, c api.Config) *Dispatcher {
+	t.Helper()
+	d := hedged(t, c)
 	play(t, d, step{6, "pull", said("6 run 1 2 a x")})
-	expectLook(t, d, api.Look{Running: 2})
+	expectLook(t, d, api.Look{Now: 1, Running: 2})
 	return d
 }
 
@@ -238,7 +258,7 @@ func TestShutStopsAttemptsInTheirOrder(t *testing.T) {
 		{6, "done 1 1 v", nil},
 		{5, "done 1 2 v", nil},
 	} {
-		d := twoAttempts(t)
+		d := twoAttempts(t, api.Config{Lease: 9, Cap: 2, Bound: 8})
 		play(t, d, s)
 		if s.said != nil {
 			expectNothingKept(t, d)
@@ -247,17 +267,14 @@ func TestShutStopsAttemptsInTheirOrder(t *testing.T) {
 }
 
 func TestShutRequestWaitsNoMore(t *testing.T) {
-	d := beginWith(t, api.Config{Lease: 1, Cap: 1, Bound: 8})
-	play(t, d,
-		step{1, "sub 1 a x", said("1 acc 1")},
-		step{5, "pull", said("5 run 1 1 a x")},
-	)
-	d.waitLast(d.requests[1])
-	play(t, d,
-		step{6, "pull", nil},
-		step{5, "done 1 1 v", said("1 val 1 v")},
-	)
-	expectLook(t, d, api.Look{Waiting: 1})
+	for _, s := range []step{
+		{5, "done 1 1 v", said("1 val 1 v")},
+		{1, "can 1", said("1 gone 1", "5 stop 1 1")},
+	} {
+		d := hedged(t, api.Config{Lease: 9, Cap: 1, Bound: 8})
+		play(t, d, step{6, "pull", nil}, s)
+		expectLook(t, d, api.Look{Now: 1, Waiting: 1})
+	}
 }
 
 // P5
@@ -374,35 +391,24 @@ func TestWorkIsHandedOutBehindEachCall(t *testing.T) {
 }
 
 func TestAttemptsAreNumberedOnInEachRequest(t *testing.T) {
-	d := begin(t)
+	d := beginWith(t, api.Config{Lease: 20, Retries: 5, Cap: 2, Bound: 8})
 	play(t, d,
 		step{1, "sub 1 a x", said("1 acc 1")},
-		step{1, "sub 2 b y", said("1 acc 2")},
 		step{5, "pull", said("5 run 1 1 a x")},
 	)
-	for _, number := range []string{"2", "3", "4"} {
-		r := d.requests[1]
-		end(r.attempts[0])
-		d.waitLast(r)
-		d.ring = []*tenant{r.tenant, d.requests[2].tenant}
-		play(t, d, step{5, "pull", said("5 run 1 " + number + " a x")})
-	}
-	play(t, d, step{5, "pull", said("5 run 2 1 b y")})
-}
-
-func TestLeaseEndsWhenItsTicksHaveGone(t *testing.T) {
-	for _, lease := range []int{1, 20} {
-		d := beginWith(t, api.Config{Lease: lease, Cap: 5, Bound: 8})
+	for number := range 4 {
+		last, next := strconv.Itoa(number+1), strconv.Itoa(number+2)
 		play(t, d,
-			step{1, "sub 1 a x", said("1 acc 1")},
-			step{0, "tick", nil},
-			step{0, "tick", nil},
-			step{5, "pull", said("5 run 1 1 a x")},
+			step{5, "fail 1 " + last, nil},
+			step{5, "pull", said("5 run 1 " + next + " a x")},
 		)
-		if ends := d.requests[1].attempts[0].leaseEnds; ends != 2+lease {
-			t.Errorf("begun at 2 with a lease of %d, it ends at %d", lease, ends)
-		}
 	}
+	play(t, d,
+		step{1, "sub 2 a y", said("1 acc 2")},
+		step{5, "pull", said("5 run 2 1 a y")},
+		step{5, "fail 1 5", nil},
+		step{5, "pull", said("5 run 1 6 a x")},
+	)
 }
 
 // P6

@@ -1,5 +1,7 @@
 package dispatch
 
+import "slices"
+
 type tenant struct {
 	name    string
 	waiting []*request // in the order in which they wait
@@ -15,13 +17,17 @@ func (d *Dispatcher) tenant(name string) *tenant {
 	return who
 }
 
-// waitLast: a request that does not wait begins to, as its tenant's last.
-func (d *Dispatcher) waitLast(r *request) {
+func (d *Dispatcher) waitFirst(r *request) { d.wait(r, 0) }
+
+func (d *Dispatcher) waitLast(r *request) { d.wait(r, len(r.tenant.waiting)) }
+
+// wait: a request that does not wait begins to, at a place among its tenant's.
+func (d *Dispatcher) wait(r *request, place int) {
 	who := r.tenant
 	if len(who.waiting) == 0 {
 		d.ring = append(d.ring, who)
 	}
-	who.waiting = append(who.waiting, r)
+	who.waiting = slices.Insert(who.waiting, place, r)
 }
 
 // waitNoMore: also of a request that does not wait.

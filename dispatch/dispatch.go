@@ -56,8 +56,8 @@ func (d *Dispatcher) Feed(conn int, bytes string) []api.Out {
 		d.handle(&t, conn, c.End())
 		bytes = rest
 	}
-	// A connection of which no byte is kept takes no room.
-	if c.Empty() {
+	// Most connections have nothing to be kept, and so take no room.
+	if c.isNew() {
 		delete(d.connections, conn)
 	}
 	return t.outs
@@ -82,8 +82,9 @@ func (d *Dispatcher) Close(conn int) []api.Out {
 		return nil
 	}
 	var t talk
-	delete(d.connections, conn)
-	d.pullers = without(d.pullers, conn)
+	d.forget(conn)
+	d.shutRequestsOf(&t, conn)
+	d.giveBackAttemptsOf(&t, conn)
 	d.handOut(&t)
 	return t.outs
 }

@@ -47,7 +47,7 @@ func expect(t *testing.T, what string, got, want []api.Out) {
 
 func TestNoCallPanics(t *testing.T) {
 	numbers := []int{math.MinInt, -1, 0, 1, math.MaxInt}
-	texts := []string{"", "\n", "\x00", "\xff\n", "\n\n\n", " \n", " 00000000\n", ended("pull"), ended("beat") + ended("fail 1 1"), ended("sub 1 a x") + ended("pull") + ended("fail 1 1") + ended("beat") + ended("done 1 1 v") + ended("can 1") + "pul", strings.Repeat("\xf0\x9f", 100000) + "\n"}
+	texts := []string{"", "\n", "\x00", "\xff\n", "\n\n\n", " \n", " 00000000\n", ended("pull"), ended("beat") + ended("fail 1 1"), ended("drain") + ended("drain"), ended("sub 1 a x") + ended("pull") + ended("fail 1 1") + ended("beat") + ended("done 1 1 v") + ended("can 1") + ended("sub 2 a x") + ended("pull") + "pul", strings.Repeat("\xf0\x9f", 100000) + "\n"}
 	unmade := []*Dispatcher{nil, {}}
 	for _, d := range append(unmade, begin(t)) {
 		for _, conn := range numbers {

@@ -10,6 +10,9 @@ import (
 	"dispatch/api"
 )
 
+// modelIDs: numbers of requests are below it.
+const modelIDs = 20
+
 // model: the promises once more, without lists: what comes first is what has the
 // least stamp. Slow and plain, to be held against the program.
 type model struct {
@@ -19,8 +22,10 @@ type model struct {
 	open   map[int]*modelRequest
 	turns  map[string]int // tenants in the ring
 	pulls  map[int]int    // connections that wait for work
+	drains map[int]int    // 1: a connection drains; 2: and was told bye
 	said   []string
 	hedges int // how many there have been, which nobody is told
+	backs  int // how many requests wait again as their connection was closed, the same
 }
 
 type modelRequest struct {
@@ -36,7 +41,7 @@ type modelAttempt struct {
 }
 
 func newModel(c api.Config) *model {
-	return &model{Config: c, open: map[int]*modelRequest{}, turns: map[string]int{}, pulls: map[int]int{}}
+	return &model{Config: c, open: map[int]*modelRequest{}, turns: map[string]int{}, pulls: map[int]int{}, drains: map[int]int{}}
 }
 
 func (m *model) stamp() int {
@@ -94,6 +99,17 @@ func (m *model) runs(may func(*modelAttempt) bool) []*modelAttempt {
 	return list
 }
 
+func (m *model) runsOf(conn int) []*modelAttempt {
+	return m.runs(func(a *modelAttempt) bool { return a.conn == conn })
+}
+
+func (m *model) bye(conn int) {
+	if m.drains[conn] == 1 && len(m.runsOf(conn)) == 0 {
+		m.drains[conn] = 2
+		m.say(conn, "bye")
+	}
+}
+
 func (m *model) call(conn int, text string) []string {
 	m.said = nil
 	w := append(strings.Split(text, " "), "", "", "")
@@ -104,21 +120,28 @@ func (m *model) call(conn int, text string) []string {
 	case "can":
 		m.can(conn, id)
 	case "pull":
-		if m.pulls[conn] == 0 {
+		if m.pulls[conn] == 0 && m.drains[conn] == 0 {
 			m.pulls[conn] = m.stamp()
 		}
 	case "done":
 		m.done(conn, id, w[2], w[3])
 	case "beat":
-		for _, a := range m.runs(func(a *modelAttempt) bool { return a.conn == conn }) {
+		for _, a := range m.runsOf(conn) {
 			a.ends = m.now + m.Lease
 		}
 	case "fail":
 		if m.end(conn, id, w[2]) {
+			m.bye(conn)
 			m.comeAgain(m.open[id])
 		}
+	case "drain":
+		m.drains[conn] = max(1, m.drains[conn])
+		delete(m.pulls, conn)
+		m.bye(conn)
 	case "tick":
 		m.tick()
+	case "close":
+		m.close(conn)
 	}
 	m.hand()
 	return m.said
@@ -149,6 +172,7 @@ func (m *model) can(conn, id int) {
 func (m *model) done(conn, id int, number, text string) {
 	if m.end(conn, id, number) {
 		m.say(m.open[id].conn, "val", strconv.Itoa(id), text)
+		m.bye(conn)
 		m.shut(id)
 	}
 }
@@ -190,6 +214,7 @@ func (m *model) tick() {
 		m.say(a.conn, "stop", strconv.Itoa(a.id), strconv.Itoa(a.number))
 		r := m.open[a.id]
 		delete(r.attempts, a.number)
+		m.bye(a.conn)
 		m.comeAgain(r)
 	}
 	if m.Hedge == 0 {
@@ -210,11 +235,38 @@ func (m *model) shut(id int) {
 	for att := range r.begun + 1 {
 		if a := r.attempts[att]; a != nil {
 			m.say(a.conn, "stop", strconv.Itoa(id), strconv.Itoa(att))
+			delete(r.attempts, att)
+			m.bye(a.conn)
 		}
 	}
 	delete(m.open, id)
 	if len(m.waiting(r.tenant)) == 0 {
 		delete(m.turns, r.tenant)
+	}
+}
+
+func (m *model) close(conn int) {
+	delete(m.pulls, conn)
+	delete(m.drains, conn)
+	for id := range modelIDs {
+		r := m.open[id]
+		if r == nil || r.conn != conn {
+			continue
+		}
+		for att, a := range r.attempts {
+			if a.conn == conn {
+				delete(r.attempts, att)
+			}
+		}
+		m.shut(id)
+	}
+	for _, a := range m.runsOf(conn) {
+		r := m.open[a.id]
+		delete(r.attempts, a.number)
+		if r.waits == 0 && len(r.attempts) == 0 {
+			m.backs++
+			m.wait(r, -1)
+		}
 	}
 }
 
@@ -255,7 +307,7 @@ func (m *model) lookAt() api.Look {
 func (m *model) anAttempt(r *rand.Rand) (int, string) {
 	list := m.runs(func(*modelAttempt) bool { return true })
 	if len(list) == 0 || r.Intn(4) == 0 {
-		return r.Intn(6), strconv.Itoa(r.Intn(20)) + " " + strconv.Itoa(r.Intn(4))
+		return r.Intn(6), strconv.Itoa(r.Intn(modelIDs)) + " " + strconv.Itoa(r.Intn(4))
 	}
 	a := list[r.Intn(len(list))]
 	return a.conn, strconv.Itoa(a.id) + " " + strconv.Itoa(a.number)
@@ -263,8 +315,8 @@ func (m *model) anAttempt(r *rand.Rand) (int, string) {
 
 func (m *model) randomCall(r *rand.Rand) (int, string) {
 	pick := func(words ...string) string { return words[r.Intn(len(words))] }
-	id := strconv.Itoa(r.Intn(20))
-	switch r.Intn(16) {
+	id := strconv.Itoa(r.Intn(modelIDs))
+	switch r.Intn(34) / 2 {
 	case 0, 1, 2, 3:
 		return r.Intn(3), "sub " + id + " " + pick("a", "b", "α", "βγ") + " " + pick("x", "é")
 	case 4:
@@ -279,6 +331,8 @@ func (m *model) randomCall(r *rand.Rand) (int, string) {
 		return conn, "fail " + att
 	case 12:
 		return r.Intn(6), "beat"
+	case 13:
+		return r.Intn(6), pick("drain", "close")
 	default:
 		return 0, "tick"
 	}
@@ -304,8 +358,9 @@ func TestAgainstModel(t *testing.T) {
 			}
 		}
 		spoken["(hedged)"] += m.hedges
+		spoken["(given back)"] += m.backs
 	}
-	for _, word := range []string{"acc", "rej", "none", "gone", "stop", "run", "val", "err", "(hedged)"} {
+	for _, word := range []string{"acc", "rej", "none", "gone", "stop", "run", "val", "err", "bye", "(hedged)", "(given back)"} {
 		if spoken[word] < 100 {
 			t.Errorf("%q was said %d times only: %v", word, spoken[word], spoken)
 		}

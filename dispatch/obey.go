@@ -20,6 +20,8 @@ func (d *Dispatcher) obey(t *talk, conn int, m message.Message) {
 		d.done(t, conn, m)
 	case message.Fail:
 		d.fail(t, conn, m)
+	case message.Drain:
+		d.drain(t, conn)
 	}
 }
 
@@ -50,9 +52,14 @@ func (d *Dispatcher) cancel(t *talk, conn int, id int) {
 }
 
 func (d *Dispatcher) pull(conn int) {
-	if !slices.Contains(d.pullers, conn) {
+	if !d.drains(conn) && !slices.Contains(d.pullers, conn) {
 		d.pullers = append(d.pullers, conn)
 	}
+}
+
+// waitForWorkNoMore: also of a connection that does not wait.
+func (d *Dispatcher) waitForWorkNoMore(conn int) {
+	d.pullers = without(d.pullers, conn)
 }
 
 func (d *Dispatcher) done(t *talk, conn int, m message.Message) {
@@ -62,7 +69,7 @@ func (d *Dispatcher) done(t *talk, conn int, m message.Message) {
 	}
 	r := a.request
 	t.say(r.conn, "val", r.id, m.Text)
-	d.end(a)
+	d.end(t, a)
 	d.shut(t, r)
 }
 
@@ -71,6 +78,6 @@ func (d *Dispatcher) fail(t *talk, conn int, m message.Message) {
 	if a == nil {
 		return
 	}
-	d.end(a)
+	d.end(t, a)
 	d.comeAgain(t, a.request)
 }

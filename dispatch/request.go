@@ -1,6 +1,7 @@
 package dispatch
 
 import (
+	"cmp"
 	"container/heap"
 	"slices"
 )
@@ -30,6 +31,24 @@ func (r *request) waits() bool {
 	return slices.Contains(r.tenant.waiting, r)
 }
 
+// goesOn: whether a request of which an attempt was lost has what it needs.
+func (r *request) goesOn() bool {
+	return r.waits() || len(r.attempts) > 0
+}
+
+func heldBy(conn int) func(*attempt) bool {
+	return func(a *attempt) bool { return a.conn == conn }
+}
+
+// running: the attempts that are so, in the order in which they began.
+func (d *Dispatcher) running(so func(*attempt) bool) []*attempt {
+	those := all(d.leases, so)
+	slices.SortFunc(those, func(a, b *attempt) int {
+		return cmp.Compare(a.serial, b.serial)
+	})
+	return those
+}
+
 // attempt: nil, if the connection has no such one.
 func (d *Dispatcher) attempt(conn, id, number int) *attempt {
 	r := d.requests[id]
@@ -51,7 +70,7 @@ func (d *Dispatcher) handOut(t *talk) {
 			return
 		}
 		conn, r := d.pullers[0], who.waiting[0]
-		d.pullers = without(d.pullers, conn)
+		d.waitForWorkNoMore(conn)
 		d.waitNoMore(r)
 		d.turnIsOver(who)
 		d.begin(t, conn, r)
@@ -75,16 +94,19 @@ func (d *Dispatcher) begin(t *talk, conn int, r *request) {
 	t.say(conn, "run", r.id, a.number, r.tenant.name, r.text)
 }
 
-func (d *Dispatcher) end(a *attempt) {
+// end: behind what is said of it, and ahead of what comes of it, as the bye that
+// may be due stands between these.
+func (d *Dispatcher) end(t *talk, a *attempt) {
 	r := a.request
 	r.attempts = without(r.attempts, a)
 	r.tenant.running--
 	heap.Remove(&d.leases, a.place)
+	d.byeIfDrained(t, a.conn)
 }
 
 func (d *Dispatcher) stop(t *talk, a *attempt) {
 	t.say(a.conn, "stop", a.request.id, a.number)
-	d.end(a)
+	d.end(t, a)
 }
 
 func (d *Dispatcher) shut(t *talk, r *request) {

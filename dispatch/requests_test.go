@@ -38,7 +38,8 @@ func TestExamples(t *testing.T) {
 		step{5, "pull", nil},
 		step{0, "tick", said("5 stop 3 1", "6 stop 2 1", "5 run 3 2 b r")},
 		step{6, "pull", said("6 run 2 2 a q")},
-		step{6, "done 2 2 w", said("2 val 2 w")},
+		step{6, "drain", nil},
+		step{6, "done 2 2 w", said("2 val 2 w", "6 bye")},
 	)
 	expectLook(t, d, api.Look{Now: 3, Running: 1})
 }

@@ -1,15 +1,10 @@
 package dispatch
 
-import (
-	"cmp"
-	"container/heap"
-	"slices"
-)
+import "container/heap"
 
 func (d *Dispatcher) beat(conn int) {
 	// They are gathered ahead: a lease that is renewed changes its place.
-	mine := all(d.leases, func(a *attempt) bool { return a.conn == conn })
-	for _, a := range mine {
+	for _, a := range all(d.leases, heldBy(conn)) {
 		a.leaseEnds = d.now + d.config.Lease
 		heap.Fix(&d.leases, a.place)
 	}
@@ -26,8 +21,8 @@ func (d *Dispatcher) endLeases(t *talk) {
 // comeAgain: a request of which an attempt was lost.
 func (d *Dispatcher) comeAgain(t *talk, r *request) {
 	switch {
-	case r.waits() || len(r.attempts) > 0:
-		// It goes on without the one that was lost, and this counts for nothing.
+	case r.goesOn():
+		// This counts for nothing.
 	case r.again >= d.config.Retries:
 		t.say(r.conn, "err", r.id)
 		d.shut(t, r)
@@ -43,11 +38,8 @@ func (d *Dispatcher) hedge() {
 	}
 	// Only a request that has been hedged waits beside an attempt, or has two of
 	// them. So each of these is its request's alone, and that does not wait.
-	slow := all(d.leases, func(a *attempt) bool {
+	slow := d.running(func(a *attempt) bool {
 		return a.began <= d.now-d.config.Hedge && !a.request.hedged
-	})
-	slices.SortFunc(slow, func(a, b *attempt) int {
-		return cmp.Compare(a.serial, b.serial)
 	})
 	for _, a := range slow {
 		a.request.hedged = true
